@@ -1,0 +1,1 @@
+"""States that are hidden, seen by signs, exactly."""
