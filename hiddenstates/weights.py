@@ -3,6 +3,7 @@
 MOST_STATES = 16
 MOST_SIGNS = 16
 MOST_WEIGHT = 65535
+MOST_PLACES = 64
 
 
 def is_size(states, signs):
@@ -36,6 +37,10 @@ class Model:
     def has_sign(self, sign):
         """Say whether there is such a sign."""
         return 0 <= sign < self.signs
+
+    def has_row(self, signs):
+        """Say whether the row is neither empty nor too long, and has no sign that there isn't."""
+        return 1 <= len(signs) <= MOST_PLACES and all([self.has_sign(sign) for sign in signs])
 
     def set_start(self, state, weight):
         """Set the weight of beginning in the state."""

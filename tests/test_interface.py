@@ -4,25 +4,16 @@ import io
 import unittest
 from contextlib import redirect_stderr, redirect_stdout
 
-from helper import BEGIN, GREATEST, LEAST, best, following, likely, row, sign, size, start, step, total
-from hiddenstates.models import NotBuilt, answers
+from helper import (
+    BEGIN, GREATEST, LEAST, Unchanging, apart, best, following, likely, row, sign, size, start, step, total,
+)
+from hiddenstates.models import answers
 
 MIXED = row([
     BEGIN, start(0, 1), size(2, 3), start(1, 65535), step(1, 0, 65536), sign(1, 2, 4), sign(2, 1, 4),
     size(17, 1), BEGIN, total([0, 1]), size(1, 1), start(0, 3),
 ])
 MIXED_TOLD = [1, 0, 1, -4, 1, 0, 1, 0, 1, -1, 1, 0, 1, -1, 1, -1, 1, 0, 1, -4, 1, 0, 1, 0]
-
-
-def refuse(*args, **kwargs):
-    raise AssertionError("the list was changed")
-
-
-class Unchanging(list):
-    """A list at which every change fails, one that is taken back too."""
-
-    append = extend = insert = pop = remove = clear = sort = reverse = refuse
-    __setitem__ = __delitem__ = __iadd__ = __imul__ = refuse
 
 
 class Form(unittest.TestCase):
@@ -49,6 +40,27 @@ class Form(unittest.TestCase):
                     told = answers(row([BEGIN, call, size(1, 1), start(0, 1), start(1, 1)]))
                     self.assertEqual(told, [1, 0, 1, -4, 1, 0, 1, 0, 1, -1])
 
+    def test_rows_written_out(self):
+        # One state, weights of start 3, step 2 and sign 5: totals of 15 and, of two signs, 150.
+        model = [0, 1, 1, 1, 2, 0, 3, 3, 0, 0, 2, 4, 0, 0, 5]
+        told = answers(model + [5, 2, 0, 0, 6, 2, 0, 0, 7, 1, 0, 2, 0, 0, 8, 0, 2, 0, 0])
+        fraction = [641, 0] + [1] + [0] * 319 + [1] + [0] * 319
+        self.assertEqual(told, [1, 0] * 5 + [321, 0, 150] + [0] * 319 + [65, 0, 0, 0] + [255] * 62 + fraction * 2)
+
+    def test_place_and_state_in_their_order(self):
+        model = [BEGIN, size(2, 3), start(1, 1), step(1, 0, 1), sign(1, 0, 1), sign(0, 2, 1)]
+        told = apart(answers(row(model + [[7, 0, 1, 2, 0, 2], [7, 1, 0, 2, 0, 2], [7, 0, 0, 2, 0, 2]])))
+        self.assertEqual([answer[:2] for answer in told[-3:]], [[0, 1], [0, 1], [0, 0]])
+
+    def test_a_row_is_read_to_its_end_where_there_is_a_model(self):
+        # Signs 0 to 8 look like calls themselves, so a row that is not passed over shows.
+        model = [BEGIN, size(1, 9), start(0, 1), step(0, 0, 1)] + [sign(0, shown, 1) for shown in range(9)]
+        for signs in ([], [0], [1, 2, 3], [8, 8], [9], [0, 255], [0] * 64, [5] * 64, [9] * 64):
+            for call in (total(signs), best(signs), likely(0, 0, signs), following(1, signs), likely(64, 5, signs)):
+                with self.subTest(call=call):
+                    told = apart(answers(row(model + [call, start(1, 1), BEGIN, start(0, 1)])))
+                    self.assertEqual(told[:len(model)] + told[len(model) + 1:], [[0]] * len(model) + [[-1], [0], [-4]])
+
     def test_a_row_at_the_end(self):
         for call in (total([1, 2]), best([]), likely(0, 0, [255]), following(0, [0] * 64)):
             with self.subTest(call=call):
@@ -66,12 +78,6 @@ class Form(unittest.TestCase):
         told = answers(list(MIXED))
         self.assertIs(type(told), list)
         self.assertEqual({type(number) for number in told}, {int})
-
-    def test_a_call_not_built_yet_is_never_answered_wrongly(self):
-        for call in (total([0]), best([0]), likely(0, 0, [0]), following(0, [0])):
-            with self.subTest(call=call):
-                with self.assertRaises(NotBuilt):
-                    answers(row([BEGIN, size(1, 1), call]))
 
 
 class Untouched(unittest.TestCase):

@@ -1,6 +1,7 @@
 """That the package keeps to the part of Python it is written in, as far as that is seen by its form."""
 
 import ast
+import builtins
 import re
 import unittest
 from pathlib import Path
@@ -24,6 +25,12 @@ PYTHONS_OWN = (
     "len", "range", "enumerate", "zip", "min", "max", "sum", "abs", "sorted", "reversed", "int", "str", "bool",
     "list", "tuple", "dict", "set", "frozenset", "isinstance", "ord", "repr", "any", "all", "divmod", "Exception",
     "ValueError", "KeyError", "IndexError", "LookupError", "ZeroDivisionError", "StopIteration",
+)
+METHODS = (
+    "append", "clear", "copy", "count", "endswith", "extend", "find", "get", "index", "insert", "isalnum", "isalpha",
+    "isdigit", "islower", "isspace", "isupper", "items", "join", "keys", "ljust", "lower", "lstrip", "partition",
+    "pop", "remove", "replace", "reverse", "rfind", "rjust", "rpartition", "rsplit", "rstrip", "setdefault", "split",
+    "splitlines", "startswith", "strip", "update", "upper", "values", "zfill", "bit_length",
 )
 METHODS_WITH_UNDERSCORES = ("__init__", "__eq__", "__repr__", "__str__", "__len__")
 
@@ -103,6 +110,37 @@ class Language(unittest.TestCase):
                         self.assertEqual(node.level, 0)
                         self.assertRegex(node.module, r"\Ahiddenstates\.[a-z_]+\Z")
                         self.assertIn(node, tree.body)
+
+    def test_no_name_has_two_meanings(self):
+        for path in FILES:
+            with self.subTest(file=path.name):
+                text, tree = read(path)
+                tops = [node.name for node in tree.body if isinstance(node, (ast.FunctionDef, ast.ClassDef))]
+                tops += [found.name for node in tree.body if isinstance(node, ast.ImportFrom) for found in node.names]
+                tops += [node.targets[0].id for node in tree.body if isinstance(node, ast.Assign)]
+                self.assertEqual(sorted(tops), sorted(set(tops)))
+                inside = [node.arg for node in ast.walk(tree) if isinstance(node, ast.arg)]
+                for node in tree.body:
+                    if isinstance(node, (ast.FunctionDef, ast.ClassDef)):
+                        inside += [found.id for found in ast.walk(node)
+                                   if isinstance(found, ast.Name) and isinstance(found.ctx, ast.Store)]
+                self.assertEqual(sorted(set(inside) & set(tops)), [])
+                self.assertEqual(sorted(set(tops + inside) & set(dir(builtins))), [])
+
+    def test_methods(self):
+        own = [node.name for path in FILES for node in ast.walk(read(path)[1]) if isinstance(node, ast.FunctionDef)]
+        for path in FILES:
+            with self.subTest(file=path.name):
+                for node in ast.walk(read(path)[1]):
+                    if isinstance(node, ast.Call) and isinstance(node.func, ast.Attribute):
+                        self.assertIn(node.func.attr, tuple(own) + METHODS)
+
+    def test_powers(self):
+        for path in FILES:
+            with self.subTest(file=path.name):
+                for node in ast.walk(read(path)[1]):
+                    if isinstance(node, ast.BinOp) and isinstance(node.op, ast.Pow):
+                        self.assertIsInstance(node.right, ast.Constant)
 
     def test_names(self):
         for path in FILES:
