@@ -72,9 +72,9 @@ def best_way(model, signs):
         if most == 0:
             return None
         # What comes behind a state is known already, so the first of the greatest choices is right.
-        state = choices.index(most)
-        way.append(state)
-        leading = model.step_weights[state]
+        chosen = choices.index(most)
+        way.append(chosen)
+        leading = model.step_weights[chosen]
     return way
 
 
